@@ -82,17 +82,15 @@ class Linkage:
     def is_fixed(self, line):
         return line in self.ground.members()
 
-    def all_pieces(self):
-        return [self.ground] + self.pieces
-
     def piece_with_ends(self, p, q):
-        for piece in self.all_pieces():
+        for piece in [self.ground] + self.pieces:
             if p in piece.ends and q in piece.ends:
                 return piece
         return None
 
     def is_crowded(self):
-        return any([len(piece.members()) > MOST_POINTS for piece in self.all_pieces()])
+        # The ground may have any number of points: the calls speak of the numbered pieces alone.
+        return any([len(piece.members()) > MOST_POINTS for piece in self.pieces])
 
     def add_line(self, name, line):
         """Adds a line and answers its number."""

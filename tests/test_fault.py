@@ -186,6 +186,11 @@ class PinAndPiece(unittest.TestCase):
         self.assertEqual(told_fault(text, [3, 2, 1], RIGHT), [2, 3, 0, 2, 2])
         self.assertEqual(told_fault(text, [1, 3, 2], RIGHT), [0])
 
+    def test_fifth_point_of_the_ground_as_a_pin(self):
+        text = "pin A 0 0\npin B 4 -3\npin F 50 0\npin G 60 0\nrider E A B 2/5 4/5\ncrank C E 1\ndyad D A 5 B 6\n"
+        self.assertEqual(told_fault(text, [3, 2, 1], RIGHT), [2, 3, 0, 4, 2])
+        self.assertEqual(told_fault(text, [1, 3, 2], RIGHT), [0])
+
     def test_rider_of_a_bar_as_a_pin(self):
         # R is (5, 5), D (5, 10), so R lies on the second bar.
         text = "pin A 0 0\npin B 5 -5\ncrank C A 10\nrider R A C 1/2 1/2\ndyad D R 5 B 15\n"

@@ -61,6 +61,12 @@ class Pieces(unittest.TestCase):
         text = "pin A 0 0\npin B 9 0\nrider R A B 1 1\nrider S B A 1 1\ncrank C A 3\n"
         self.assertEqual(self.lists(text), [[0, 4]])
 
+    def test_crowded_ground(self):
+        pins = "".join("pin %s %d 9\n" % (name, x) for x, name in enumerate("CDEFGHIJKL"))
+        self.assertEqual(self.lists("pin A 0 0\ncrank B A 5\n" + pins), [[0, 1]])
+        riders = "rider C A B 1 1\nrider D A B 2 1\nrider E A B 1/2 0\n"
+        self.assertEqual(self.lists("pin A 0 0\npin B 9 9\n" + riders + "crank F E 5\n"), [[4, 5]])
+
     def test_riders_in_order(self):
         text = "pin A 0 0\npin B 9 0\ncrank C A 3\ndyad D C 8 B 7\n"
         riders = "rider R D B 1 1\nrider S C A 1 1\nrider T B D 2 1\nrider U A C 2 1\n"

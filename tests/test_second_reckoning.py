@@ -35,15 +35,15 @@ class Maker:
 
     def pin(self):
         row = ["pin", self.number(), self.number()]
-        if row not in self.rows and self.room(0):
+        if row not in self.rows:
             self.ground.append(len(self.rows))
             self.fixed.append(len(self.rows))
             self.rows.append(row)
 
     def room(self, piece):
-        """Whether a piece, 0 the ground, has room for one more point; then that is noted."""
-        self.members[piece] = self.members.get(piece, 0 if piece == 0 else 2) + 1
-        return self.members[piece] <= 4
+        """Whether a piece has room for one more point, as 0, the ground, always has; then that is noted."""
+        self.members[piece] = self.members.get(piece, 2) + 1
+        return piece == 0 or self.members[piece] <= 4
 
     def crank(self):
         p = self.source.choice(self.fixed)

@@ -19,6 +19,8 @@ rider F4 B D 1/2 4
 rider G A B 1 1
 rider H B A 1 1
 """
+ELEVEN_PINS = "pin A 0 0\ncrank B A 5\n" + "".join("pin %s %d 9\n" % (name, x) for x, name in enumerate("CDEFGHIJKL"))
+GROUND_RIDERS = "pin A 0 0\npin B 9 9\nrider C A B 1 1\nrider D A B 2 1\nrider E A B 1/2 0\ncrank F E 5\n"
 
 
 class Take(unittest.TestCase):
@@ -260,9 +262,17 @@ class Bounds(Take):
 
     def test_points_of_the_ground(self):
         four = CRANK + "pin D 1 1\nrider R A D 1 1\n"
-        self.taken(four)
-        self.assertEqual(told(take(four + "rider S A D 1 2\n")), [[-7]])
-        self.assertEqual(told(take(four + "pin E 2 2\n")), [[-7]])
+        self.taken(four, four + "rider S A D 1 2\n", four + "pin E 2 2\n", ELEVEN_PINS, GROUND_RIDERS)
+        self.taken(CRANK + "".join("rider R%d A B %d 1\n" % (k, k) for k in range(1, 10)))
+
+    def test_crowded_bar_beside_a_crowded_ground(self):
+        five = CRANK + "".join("pin E%d %d 9\n" % (k, k) for k in range(1, 4))
+        four = five + "rider R A C 1 1\nrider S C A 2 1\n"
+        self.taken(five, four)
+        self.assertEqual(told(take(four + "rider T A C 0 0\n")), [[-7]])
+        dyad = five + "dyad D C 8 B 7\nrider R B D 1 1\nrider S B D 2 1\n"
+        self.taken(dyad)
+        self.assertEqual(told(take(dyad + "rider T D B 0 0\n")), [[-7]])
 
     def test_fault_of_the_text_before_points(self):
         five = CRANK + "rider R A C 1 1\nrider S C A 2 1\nrider T A C 0 0\n"
@@ -276,6 +286,11 @@ class Refused(Take):
             given = told(take(CRANK), take(refused), PRINT)
             self.assertLess(given[1][0], 0)
             self.assertEqual(given[2], [len(CRANK), len(CRANK)] + bytes_of(CRANK))
+
+    def test_crowded_bar_leaves_the_linkage_from_before(self):
+        four = GROUND_RIDERS + "rider G E F 1 1\nrider H E F 2 1\n"
+        given = told(take(four), take(four + "rider I E F 1/2 0\n"), PRINT)
+        self.assertEqual(given, [[8], [-7], [len(four), len(four)] + bytes_of(four)])
 
     def test_no_linkage_from_before(self):
         self.assertEqual(told(take("x"), PRINT), [[-6, 1, 0], [-9]])
