@@ -89,6 +89,9 @@ class Cover:
 
         If they have, but neither covers a point of the other, edges of both cross.
         """
+        # Said ahead though covers tells it too: many pieces share a point, and nothing is reckoned then.
+        if any([k in one for k in other]):
+            return True
         return self.covers_any(one, other) or self.covers_any(other, one) or self.edges_cross(one, other)
 
 

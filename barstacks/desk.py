@@ -2,7 +2,7 @@
 
 from barstacks.figure import figure_at
 from barstacks.reader import TextFault
-from barstacks.stack import first_fault
+from barstacks.stack import first_fault, free_stacks
 from barstacks.text import linkage_of
 
 MOST_BYTES = 1024
@@ -13,6 +13,24 @@ TAKE = 0
 PRINT = 1
 PIECES = 2
 FAULT = 3
+FIRST = 4
+COUNT = 5
+LEAST = 6
+
+
+class NoLinkage(ValueError):
+    """Nothing has been taken yet."""
+
+
+class OutOfBounds(ValueError):
+    """A height or how many there are can't be, or the row has too many figures."""
+
+
+class OpenFigure(ValueError):
+    """A figure that doesn't close or has no place; rank tells which one of its row."""
+
+    def __init__(self, rank):
+        self.rank = rank
 
 
 class Calls:
@@ -54,40 +72,66 @@ class Desk:
         self.linkage = linkage
         return [len(linkage.lines)]
 
-    def tell_text(self):
+    def known_linkage(self):
         if self.linkage is None:
-            return [-9]
-        text = self.linkage.text
+            raise NoLinkage()
+        return self.linkage
+
+    def tell_text(self):
+        text = self.known_linkage().text
         return [len(text)] + with_count(text)
 
     def tell_pieces(self):
-        if self.linkage is None:
-            return [-9]
-        answer = [len(self.linkage.pieces)]
-        for piece in self.linkage.pieces:
+        pieces = self.known_linkage().pieces
+        answer = [len(pieces)]
+        for piece in pieces:
             answer.extend(with_count(piece.members()))
         return answer
 
     def tell_fault(self, heights, row):
-        if self.linkage is None:
-            return [-9]
-        if not self.is_stack(heights) or len(row) > 3 * MOST_FIGURES:
-            return [-1]
-        figures = []
-        for number in range(len(row) // 3):
-            figure = figure_at(self.linkage, row[3 * number], row[3 * number + 1], row[3 * number + 2])
-            if figure is None:
-                return [-3, 1, number]
-            figures.append(figure)
-        found = first_fault(self.linkage, heights, figures)
+        linkage = self.known_linkage()
+        check_bounds(heights, row)
+        if len(heights) != len(linkage.pieces):
+            raise OutOfBounds()
+        found = first_fault(linkage, heights, figures_of(linkage, row))
         if found == []:
             return [0]
         return [found[0]] + with_count(found[1:])
 
-    def is_stack(self, heights):
-        if len(heights) != len(self.linkage.pieces):
-            return False
-        return all([1 <= height <= MOST_HEIGHT for height in heights])
+    def tell_first(self, highest, row):
+        stacks = self.free_ones(highest, row)
+        if stacks == []:
+            return [0]
+        return [1] + with_count(stacks[0])
+
+    def tell_count(self, highest, row):
+        return [len(self.free_ones(highest, row))]
+
+    def tell_least(self, row):
+        return [min([max(stack) for stack in self.free_ones(MOST_HEIGHT, row)], default=0)]
+
+    def free_ones(self, highest, row):
+        linkage = self.known_linkage()
+        check_bounds([highest], row)
+        return free_stacks(linkage, highest, figures_of(linkage, row))
+
+
+def check_bounds(heights, row):
+    for height in heights:
+        if not 1 <= height <= MOST_HEIGHT:
+            raise OutOfBounds()
+    if len(row) > 3 * MOST_FIGURES:
+        raise OutOfBounds()
+
+
+def figures_of(linkage, row):
+    figures = []
+    for rank in range(len(row) // 3):
+        figure = figure_at(linkage, row[3 * rank], row[3 * rank + 1], row[3 * rank + 2])
+        if figure is None:
+            raise OpenFigure(rank)
+        figures.append(figure)
+    return figures
 
 
 def with_count(numbers):
@@ -95,7 +139,18 @@ def with_count(numbers):
 
 
 def answer_of(desk, calls):
-    """Reads the next call and answers it."""
+    """Reads the next call and answers it, or tells why it is refused."""
+    try:
+        return granted_answer(desk, calls)
+    except NoLinkage:
+        return [-9]
+    except OutOfBounds:
+        return [-1]
+    except OpenFigure as refusal:
+        return [-3, 1, refusal.rank]
+
+
+def granted_answer(desk, calls):
     call = calls.number()
     if call == TAKE:
         return desk.take(calls.row())
@@ -106,7 +161,15 @@ def answer_of(desk, calls):
     if call == FAULT:
         heights = calls.row()
         return desk.tell_fault(heights, calls.row())
-    raise NotImplementedError("first, count and least are not there yet")
+    if call == FIRST:
+        highest = calls.number()
+        return desk.tell_first(highest, calls.row())
+    if call == COUNT:
+        highest = calls.number()
+        return desk.tell_count(highest, calls.row())
+    if call == LEAST:
+        return desk.tell_least(calls.row())
+    raise ValueError(f"there is no call {call}")
 
 
 def answers(calls):

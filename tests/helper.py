@@ -15,7 +15,23 @@ def take(text):
 
 
 def fault(heights, *figures):
-    return [3] + counted(heights) + counted([number for figure in figures for number in figure])
+    return [3] + counted(heights) + row_of(figures)
+
+
+def first(highest, *figures):
+    return [4, highest] + row_of(figures)
+
+
+def count(highest, *figures):
+    return [5, highest] + row_of(figures)
+
+
+def least(*figures):
+    return [6] + row_of(figures)
+
+
+def row_of(figures):
+    return counted([number for figure in figures for number in figure])
 
 
 def counted(numbers):
@@ -34,8 +50,12 @@ def told(*calls):
     return found
 
 
+def told_of(text, *calls):
+    """The answers to calls on a linkage that is taken without a fault."""
+    found = told(take(text), *calls)
+    assert found[0] == [text.count("\n")], found[0]
+    return found[1:]
+
+
 def told_fault(text, heights, *figures):
-    """What fault answers of a linkage that is taken without a fault."""
-    answer = told(take(text), fault(heights, *figures))
-    assert answer[0] == [text.count("\n")], answer
-    return answer[1]
+    return told_of(text, fault(heights, *figures))[0]

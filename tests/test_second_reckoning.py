@@ -1,15 +1,16 @@
-"""Faults reckoned a second time, another way: decimal numbers with many digits, and gaps.
+"""Faults and free stacks reckoned a second time, another way: decimal numbers with many digits, and gaps.
 
 Two hulls are apart just if some direction shows a gap between them: one along or across a way
 between two points of the same hull will do. A hundred digits are more than enough to tell no gap
 from a small one in the linkages made here.
 """
 
+import itertools
 import random
 import unittest
 from decimal import Decimal, localcontext
 
-from helper import fault, take, told
+from helper import count, fault, first, least, take, told
 
 TINY = Decimal(10) ** -40
 FRACTIONS = ("0", "0", "1", "1", "-1", "2", "1/2", "-1/2", "1/3", "3/4", "2/5", "3/2", "-7/20", "11/19")
@@ -181,16 +182,47 @@ def reckoned(rows, heights, figures):
     return [0]
 
 
+def is_free(stack, ground, pieces, meeting, covered):
+    if any(stack[m] == stack[n] for m, n in meeting):
+        return False
+    for line, m in covered:
+        held = [stack[n] for n, piece in enumerate(pieces) if line in piece] + [0] * (line in ground)
+        if min(held) < stack[m] < max(held):
+            return False
+    return True
+
+
+def free_reckoned(rows, figures):
+    """Every free stack of heights up to 4, in order."""
+    ground, pieces = pieces_of(rows)
+    meeting = []
+    covered = []
+    for points in [points_of(rows, *figure) for figure in figures]:
+        hulls = [[points[k] for k in piece] for piece in pieces]
+        pairs = itertools.combinations(range(len(pieces)), 2)
+        meeting.extend((m, n) for m, n in pairs if not apart(hulls[m], hulls[n]))
+        for line, point in enumerate(points):
+            held = [piece for piece in pieces if line in piece]
+            others = [m for m, piece in enumerate(pieces) if held and line not in piece]
+            covered.extend((line, m) for m in others if not apart([point], hulls[m]))
+    stacks = itertools.product((1, 2, 3, 4), repeat=len(pieces))
+    return [stack for stack in stacks if is_free(stack, ground, pieces, meeting, covered)]
+
+
+def some_figures(maker):
+    return [
+        maker.source.choice(PLACES + ((maker.source.randint(-99, 99), maker.source.randint(1, 99)),))
+        + (maker.source.randrange(4),)
+        for _ in range(40)
+    ]
+
+
 class SecondReckoning(unittest.TestCase):
     def check(self, seed):
         """How the answers begin that both ways gave."""
         maker = Maker(seed)
         rows = maker.make()
-        figures = [
-            maker.source.choice(PLACES + ((maker.source.randint(-99, 99), maker.source.randint(1, 99)),))
-            + (maker.source.randrange(4),)
-            for _ in range(40)
-        ]
+        figures = some_figures(maker)
         closing = [figure for figure in figures if points_of(rows, *figure) is not None]
         calls = [take(text_of(rows))]
         expected = [[len(rows)]]
@@ -214,6 +246,34 @@ class SecondReckoning(unittest.TestCase):
                 kinds.extend(self.check(seed))
         for kind in (-3, 0, 1, 2):
             self.assertGreater(kinds.count(kind), 20, kind)
+
+    def check_free_stacks(self, seed):
+        """What least told, if that and all else is the same both ways."""
+        maker = Maker(seed)
+        rows = maker.make()
+        figures = [figure for figure in some_figures(maker) if points_of(rows, *figure) is not None]
+        row = figures[:maker.source.randint(1, 4)]
+        free = free_reckoned(rows, row)
+        calls = [take(text_of(rows))]
+        expected = [[len(rows)]]
+        fewest = 0
+        for highest in (4, 3, 2, 1):
+            calls.extend([first(highest, *row), count(highest, *row)])
+            free = [stack for stack in free if max(stack) <= highest]
+            expected.append([1, len(free[0])] + list(free[0]) if free else [0])
+            expected.append([len(free)])
+            fewest = highest if free else fewest
+        self.assertEqual(told(*calls, least(*row)), expected + [[fewest]], (text_of(rows), row))
+        return fewest
+
+    def test_free_stacks_agree(self):
+        fewest = []
+        with localcontext() as context:
+            context.prec = 100
+            for seed in range(5000, 5400):
+                fewest.append(self.check_free_stacks(seed))
+        for number in range(5):
+            self.assertGreater(fewest.count(number), 1, number)
 
 
 if __name__ == "__main__":
